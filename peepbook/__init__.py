@@ -1,0 +1,1 @@
+"""Peepbook: code of a small machine, rewritten by rules that are checked."""
