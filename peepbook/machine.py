@@ -120,3 +120,32 @@ def state_after(instructions, state):
     for instruction in instructions:
         carry_out(instruction, reached)
     return reached
+
+
+def zero_and_ones(length):
+    """Rows of this length: all 0; then each number in turn 1, the others 0."""
+    rows = [[0] * length]
+    for place in range(length):
+        rows.append([1 if other == place else 0 for other in range(length)])
+    return rows
+
+
+def nine_states():
+    """The states that tell all codes apart that don't do the same."""
+    return zero_and_ones(len(REGISTERS))
+
+
+def state_between(one, other):
+    """The first of the nine states from which two codes come to different ones, or None."""
+    # What a register comes to is a sum of multiples of the eight and a number, so these states show every difference.
+    for state in nine_states():
+        if state_after(one, state) != state_after(other, state):
+            return state
+    return None
+
+
+def sum_at(instructions, place):
+    """What the register of this place comes to: how many times each register is in it, then what is added."""
+    reached = [state_after(instructions, state)[place] for state in nine_states()]
+    added = reached[0]
+    return [(number - added) % MODULUS for number in reached[1:]] + [added]

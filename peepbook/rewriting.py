@@ -82,6 +82,51 @@ def answer_at(session, reader):
     return session.at(number, reader.take_number())
 
 
+def answer_step(session, reader):
+    """Call 10, which has nothing to read."""
+    return session.step()
+
+
+def answer_run(session, reader):
+    """Call 11, which has nothing to read."""
+    return session.run()
+
+
+def answer_trail(session, reader):
+    """Call 12, which has nothing to read."""
+    return session.trail()
+
+
+def answer_eval(session, reader):
+    """Call 13."""
+    return session.reckon(reader.take_row())
+
+
+def answer_form(session, reader):
+    """Call 14."""
+    return session.form(reader.take_number())
+
+
+def answer_same(session, reader):
+    """Call 15."""
+    return session.same(reader.take_row())
+
+
+def answer_state(session, reader):
+    """Call 16, which has nothing to read."""
+    return session.state()
+
+
+def answer_undo(session, reader):
+    """Call 17, which has nothing to read."""
+    return session.undo()
+
+
+def answer_redo(session, reader):
+    """Call 18, which has nothing to read."""
+    return session.redo()
+
+
 # The place of each is the number of its call.
 CALLS = (
     answer_load,
@@ -94,6 +139,15 @@ CALLS = (
     answer_say,
     answer_fits,
     answer_at,
+    answer_step,
+    answer_run,
+    answer_trail,
+    answer_eval,
+    answer_form,
+    answer_same,
+    answer_state,
+    answer_undo,
+    answer_redo,
 )
 
 

@@ -1,7 +1,7 @@
 """Rules: how they are read, what may stand against them, where they fit and what they make of code."""
 
 from peepbook.machine import MODULUS, WITH_CONSTANT, WITH_SECOND, Instruction
-from peepbook.machine import cost_of, read_instructions, state_after
+from peepbook.machine import cost_of, read_instructions, state_after, zero_and_ones
 from peepbook.refusals import NotCheaper, NotFormed, NotReadable, NotRight
 from peepbook.texts import has_open_end, lines_of, read_number
 
@@ -38,7 +38,7 @@ class Fit:
     """What is put for a rule's names, and for its x and y (None while nothing is)."""
 
     def __init__(self):
-        self.places = [NO_REGISTER for name in NAMES]
+        self.places = [NO_REGISTER] * len(NAMES)
         self.x = None
         self.y = None
 
@@ -147,10 +147,7 @@ def filled_in(side, places, x, y):
 
 def seven_trials():
     """The trials: six numbers each, for r0 to r3, x and y."""
-    trials = [[0] * TRIAL_NUMBERS]
-    for place in range(TRIAL_NUMBERS):
-        trials.append([1 if other == place else 0 for other in range(TRIAL_NUMBERS)])
-    return trials
+    return zero_and_ones(TRIAL_NUMBERS)
 
 
 def state_on_trial(side, trial):
@@ -183,8 +180,8 @@ def read_sound_rule(text):
 
 
 def takes(fit, wanted, found):
-    """Whether the instruction found is the one wanted, with what is put; puts what is not yet put."""
-    if wanted.word != found.word or not fit.put_name(wanted.first, found.first):
+    """Whether the instruction found, of the same word, is the one wanted with what is put; puts what is not yet put."""
+    if not fit.put_name(wanted.first, found.first):
         return False
     if wanted.word in WITH_SECOND:
         return fit.put_name(wanted.second, found.second)
@@ -196,7 +193,8 @@ def takes(fit, wanted, found):
 def fit_at(rule, instructions, place):
     """How the rule fits at this place of the code, or None."""
     covered = instructions[place:place + len(rule.left)]
-    if len(covered) < len(rule.left):
+    # Most places are told from a rule by their words alone, before any register or number is put.
+    if [found.word for found in covered] != [wanted.word for wanted in rule.left]:
         return None
     fit = Fit()
     for wanted, found in zip(rule.left, covered):

@@ -1,4 +1,4 @@
-"""What the tests share: calls as lists, answers parted, and a second, slow reckoning of the machine."""
+"""What the tests share: calls as lists, answers parted, rules, and a second, slow reckoning of the machine."""
 
 import itertools
 import random
@@ -60,6 +60,42 @@ def at(k, i):
     return [9, k, i]
 
 
+def step():
+    return [10]
+
+
+def run():
+    return [11]
+
+
+def trail():
+    return [12]
+
+
+def evaluated(numbers):
+    return [13, len(numbers), *numbers]
+
+
+def form(r):
+    return [14, r]
+
+
+def same(text):
+    return with_row(15, text)
+
+
+def state():
+    return [16]
+
+
+def undo():
+    return [17]
+
+
+def redo():
+    return [18]
+
+
 def parted(told):
     """The answers of one list, each a list of its own."""
     found = []
@@ -89,9 +125,33 @@ def text(*lines):
     return "".join(line + "\n" for line in lines)
 
 
+TWICE = text("neg a", "neg a", "=>")
+RULES = (
+    TWICE,
+    text("mov a a", "=>"),
+    text("swp a a", "=>"),
+    text("set a x", "set a y", "=>", "set a 0+y"),
+    text("set a x", "adc a y", "=>", "set a 0+x+y"),
+    text("adc a x", "adc a y", "=>", "adc a 0+x+y"),
+    text("adc a x", "adc a x", "adc a y", "=>", "adc a 0+x+y", "adc a 0+x"),
+    text("adc a 0", "=>"),
+    text("adc a y", "neg b", "adc a y", "neg b", "=>", "adc a 0+y", "adc a 0+y"),
+    text("mov a b", "mov b a", "=>", "mov a b"),
+    text("mov a b", "mov a c", "=>", "mov a c"),
+    text("set a x", "neg a", "=>", "set a 0-x"),
+    text("set a x", "add b a", "=>", "set a 0+x", "adc b 0+x"),
+    text("set a x", "sub b a", "=>", "set a 0+x", "adc b 0-x"),
+    text("add a b", "sub a b", "=>"),
+    text("sub a a", "=>", "set a 0"),
+    text("swp a b", "swp b a", "=>"),
+    text("swp a b", "swp c d", "swp a b", "=>", "swp c d"),
+    text("neg b", "add a b", "neg b", "=>", "sub a b"),
+)
+
+
 # A second reckoning, written another way: a state is a dict, a line is gone through word by word.
 
-def step_of(line, state):
+def go_on(line, state):
     """Change a state (a dict from a word to its number) as a line does."""
     word, first, *more = line.split(" ")
     second = more[0] if more else "none"
@@ -122,7 +182,7 @@ def outcome(lines, state):
     """The state that lines come to."""
     state = dict(state)
     for line in lines:
-        step_of(line, state)
+        go_on(line, state)
     return state
 
 
@@ -181,6 +241,8 @@ def all_fits(rule_text, code_text, place):
     """Each way to put registers and numbers so that the left side becomes the code there, tried one by one."""
     left, right = sides(rule_text)
     there = code_text.splitlines()[place:place + len(left)]
+    if [line.split(" ")[0] for line in there] != [line.split(" ")[0] for line in left]:
+        return []
     words = [w for line in left for w in line.split(" ")[1:]]
     names = sorted(set(words) & set("abcd"))
     numbers = sorted({int(line.split(" ")[2]) for line in there if TAIL[line.split(" ")[0]] == "k"} | {0})
@@ -194,10 +256,35 @@ def all_fits(rule_text, code_text, place):
     return found
 
 
+def nine_states():
+    return [[0] * 8] + [[int(i == j) for j in range(8)] for i in range(8)]
+
+
+def told_of_two(one, other):
+    """What same is to answer of two codes' texts."""
+    for numbers in nine_states():
+        if machine_outcome(one, numbers) != machine_outcome(other, numbers):
+            return [0] + numbers
+    return [1]
+
+
 def random_line(dice, names, constants):
     word = dice.choice(list(COST))
     tail = {"k": [dice.choice(constants)], "r": [dice.choice(names)], "": []}[TAIL[word]]
     return " ".join([word, dice.choice(names), *tail])
+
+
+def code_near(throw, rule_text):
+    """Code in which the rule's left side stands, more or less."""
+    names = [f"r{j}" for j in throw.sample(range(8), throw.randrange(2, 5))]
+    numbers = ["0", "1", str(LARGEST)]
+    left = rule_text[:rule_text.index("=>")]
+    letters = {n: throw.choice(names) for n in "abcd"} | {n: throw.choice(numbers) for n in "xy"}
+    lines = [" ".join([line.split(" ")[0]] + [letters.get(w, w) for w in line.split(" ")[1:]])
+             for line in left.splitlines()]
+    before = [random_line(throw, names, numbers) for _ in range(throw.randrange(2))]
+    behind = [random_line(throw, names, numbers) for _ in range(throw.randrange(2))]
+    return text(*before, *lines, *behind)
 
 
 def dice(seed):

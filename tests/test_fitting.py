@@ -2,32 +2,8 @@
 
 import unittest
 
-from helper import LARGEST, SIZE, all_fits, at, code, cost, dice, drop, fits, last, load, machine_outcome, put
-from helper import random_line, rule, talk, text, told_text
-
-TWICE = text("neg a", "neg a", "=>")
-FOUR = text("neg a", "neg b", "neg c", "neg d", "neg a")
-RULES = (
-    TWICE,
-    text("mov a a", "=>"),
-    text("swp a a", "=>"),
-    text("set a x", "set a y", "=>", "set a 0+y"),
-    text("set a x", "adc a y", "=>", "set a 0+x+y"),
-    text("adc a x", "adc a y", "=>", "adc a 0+x+y"),
-    text("adc a x", "adc a x", "adc a y", "=>", "adc a 0+x+y", "adc a 0+x"),
-    text("adc a 0", "=>"),
-    text("adc a y", "neg b", "adc a y", "neg b", "=>", "adc a 0+y", "adc a 0+y"),
-    text("mov a b", "mov b a", "=>", "mov a b"),
-    text("mov a b", "mov a c", "=>", "mov a c"),
-    text("set a x", "neg a", "=>", "set a 0-x"),
-    text("set a x", "add b a", "=>", "set a 0+x", "adc b 0+x"),
-    text("set a x", "sub b a", "=>", "set a 0+x", "adc b 0-x"),
-    text("add a b", "sub a b", "=>"),
-    text("sub a a", "=>", "set a 0"),
-    text("swp a b", "swp b a", "=>"),
-    text("swp a b", "swp c d", "swp a b", "=>", "swp c d"),
-    text("neg b", "add a b", "neg b", "=>", "sub a b"),
-)
+from helper import LARGEST, RULES, SIZE, TWICE, all_fits, at, code, code_near, cost, dice, drop, fits, last, load
+from helper import machine_outcome, put, rule, talk, text, told_text
 
 
 class Fits(unittest.TestCase):
@@ -107,19 +83,6 @@ class Fits(unittest.TestCase):
             self.assertEqual(self.fit(given, there, place), wanted, (given, there, place))
             count += len(found)
         self.assertGreater(count, 40)
-
-
-def code_near(throw, rule_text):
-    """Code in which the rule's left side stands, more or less."""
-    names = [f"r{j}" for j in throw.sample(range(8), throw.randrange(2, 5))]
-    numbers = ["0", "1", str(LARGEST)]
-    left = rule_text[:rule_text.index("=>")]
-    letters = {n: throw.choice(names) for n in "abcd"} | {n: throw.choice(numbers) for n in "xy"}
-    lines = [" ".join([line.split(" ")[0]] + [letters.get(w, w) for w in line.split(" ")[1:]])
-             for line in left.splitlines()]
-    before = [random_line(throw, names, numbers) for _ in range(throw.randrange(2))]
-    behind = [random_line(throw, names, numbers) for _ in range(throw.randrange(2))]
-    return text(*before, *lines, *behind)
 
 
 class At(unittest.TestCase):

@@ -2,9 +2,8 @@
 
 import unittest
 
-from helper import LARGEST, dice, drop, judge, last, random_line, rule, say, talk, text, told_of_rule, told_text
+from helper import LARGEST, TWICE, dice, drop, judge, last, random_line, rule, say, talk, text, told_of_rule, told_text
 
-TWICE = text("neg a", "neg a", "=>")
 SET_SET = text("set a x", "set a y", "=>", "set a 0+y")
 WRONG = text("neg a", "=>", "set a 0")
 
